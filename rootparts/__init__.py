@@ -1,0 +1,1 @@
+"""Rootparts: a web dealt to roots in parts of every size."""

@@ -1,0 +1,84 @@
+"""The interface: names, arguments, and the file in which each name stands."""
+
+import ast
+import inspect
+import unittest
+from importlib import import_module
+from pathlib import Path
+
+PACKAGE = Path(__file__).resolve().parent.parent / "rootparts"
+
+FUNCTIONS = {
+    "webs": [
+        "is_web(value)", "is_lot(n, value)", "neighbours(web, place)", "piece_of(web, lot, place)", "pieces(web, lot)",
+        "hangs(web, lot)", "with_tie(web, a, b)", "loose_ties(web)",
+    ],
+    "deals": [
+        "is_deal(web, value)", "is_parts(web, deal, value)", "part_of(dealing, i)", "every_sizes(n, k)",
+        "border(web, dealing)",
+    ],
+}
+
+CLASSES = {
+    "errors": [
+        "InvalidPlace(value)", "SamePlace(place)", "AlreadyTied(a, b)", "NotTied(a, b)", "AlreadyRoot(place)",
+        "NotRoot(place)", "InvalidSizes(sizes)", "InvalidText(value)",
+    ],
+}
+
+
+def defined(module, kind):
+    tree = ast.parse((PACKAGE / (module + ".py")).read_text())
+    return [node.name for node in tree.body if isinstance(node, kind)]
+
+
+class Interface(unittest.TestCase):
+    def check(self, table, kind):
+        for module, rows in table.items():
+            loaded = import_module("rootparts." + module)
+            for row in rows:
+                name = row.partition("(")[0]
+                self.assertEqual(name + str(inspect.signature(getattr(loaded, name))), row)
+                self.assertIn(name, defined(module, kind))
+
+    def test_functions(self):
+        self.check(FUNCTIONS, ast.FunctionDef)
+
+    def test_classes(self):
+        self.check(CLASSES, ast.ClassDef)
+        self.assertIn("RootpartsError", defined("errors", ast.ClassDef))
+
+
+class Files(unittest.TestCase):
+    """The rules on files and sizes that can be counted (L1, L2, L10, L14)."""
+
+    def files(self):
+        return [path for path in sorted(PACKAGE.rglob("*")) if "__pycache__" not in path.parts]
+
+    def test_only_python_files(self):
+        self.assertIn(PACKAGE / "__init__.py", self.files())
+        for path in self.files():
+            self.assertEqual(path.suffix, ".py", path)
+
+    def test_lines_and_signs(self):
+        for path in self.files():
+            text = path.read_bytes().decode("ascii")
+            self.assertTrue(all(sign == "\n" or " " <= sign <= "~" for sign in text), path)
+            self.assertLessEqual(len(text.splitlines()), 399, path)
+            self.assertLessEqual(max(map(len, text.splitlines())), 120, path)
+
+    def test_functions_are_short(self):
+        for path in self.files():
+            for node in ast.walk(ast.parse(path.read_text())):
+                if isinstance(node, ast.FunctionDef):
+                    self.assertLessEqual(node.end_lineno - node.lineno + 1, 40, (path, node.name))
+
+    def test_imports_come_from_the_package_and_name_the_file_of_the_name(self):
+        for path in self.files():
+            for node in ast.walk(ast.parse(path.read_text())):
+                self.assertNotIsInstance(node, ast.Import, path)
+                if isinstance(node, ast.ImportFrom) and node.module not in ("heapq", "math", "itertools", "collections"):
+                    package, _, module = node.module.partition(".")
+                    self.assertEqual((package, node.level), ("rootparts", 0), path)
+                    names = defined(module, (ast.FunctionDef, ast.ClassDef))
+                    self.assertTrue(all(alias.name in names or alias.name.isupper() for alias in node.names), path)
