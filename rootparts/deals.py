@@ -55,9 +55,7 @@ def part_of(dealing, i):
 def every_sizes(n, k):
     """Return, in ascending order, all tuples of k integers from 1 on that are together n."""
     if k < 1:
-        return [()] if n == 0 and k == 0 else []
-    if k == 1:
-        return [(n,)] if n >= 1 else []
+        return [()] if n == 0 else []
     # The first size leaves at least 1 for each of the others.
     return [(size,) + rest for size in range(1, n - k + 2) for rest in every_sizes(n - size, k - 1)]
 

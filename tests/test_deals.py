@@ -190,6 +190,7 @@ class EverySizes(unittest.TestCase):
         self.assertEqual(every_sizes(13, 14), [])
         self.assertEqual(every_sizes(0, 1), [])
         self.assertEqual(every_sizes(3, 0), [])
+        self.assertEqual(every_sizes(0, 0), [()])
 
     def test_a_new_list_at_each_call(self):
         for n, k in [(4, 2), (2, 3), (3, 1), (12, 12)]:
