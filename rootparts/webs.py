@@ -52,16 +52,35 @@ def neighbours(web, place):
     return tuple(sorted(lesser + greater))
 
 
-def piece_of(web, lot, place):
-    """Return the piece of the lot in which the place is."""
+def other_places(web, places):
+    """Return the lot of all places of the web but these."""
+    return tuple([place for place in range(web[0]) if place not in places])
+
+
+def every_neighbours(web):
+    """Return the list of the neighbours of each place."""
+    return [neighbours(web, place) for place in range(web[0])]
+
+
+def reached_places(near, lot, place):
+    """Return the places that are reached from the place within the lot, in no told order.
+
+    near is the list of the neighbours of each place: a search asks for it once.
+    """
     reached = [place]
     at = 0
     while at < len(reached):
-        for other in neighbours(web, reached[at]):
+        last = reached[at]
+        for other in near[last]:
             if other in lot and other not in reached:
                 reached.append(other)
         at += 1
-    return tuple(sorted(reached))
+    return reached
+
+
+def piece_of(web, lot, place):
+    """Return the piece of the lot in which the place is."""
+    return tuple(sorted(reached_places(every_neighbours(web), lot, place)))
 
 
 def pieces(web, lot):

@@ -3,7 +3,7 @@
 import unittest
 from doctest import DocTestParser, DocTestRunner
 
-from rootparts import deals, webs
+from rootparts import cuts, deals, firmness, orders, trees, webs
 from tests import samples
 
 WEBS = r"""
@@ -31,10 +31,53 @@ STAGE_2 = r"""
     [(0, 1, 3), [(1, 3), (2, 2), (3, 1)], [], ((0, 3), (1, 2))]
 """
 
+STAGE_3 = r"""
+    >>> [first_state(RING, ((0, 2), (3, 1))), room_of(RING, ((0, 2), (2, 2)), (0, -1, 1, -1), 0), room_of(PATH, ((0, 2), (2, 2)), (0, -1, 1, -1), 1)]
+    [(0, -1, 1, -1), (0, 1, 3), (1, 2, 3)]
+    >>> [find_parts(RING, ((0, 2), (3, 1))), find_parts(PATH, ((0, 2), (3, 1))), find_tree(RING, ((0, 2), (3, 1)))]
+    [(0, 0, 1, 0), None, None]
+    >>> [is_tree(PATH, ((0, 2), (3, 1)), ('short', 0)), is_tree(PATH, ((0, 2), (2, 2)), ('short', 0)), is_tree(STAR, ((0, 1), (1, 3)), ('lost', 2))]
+    [True, False, True]
+    >>> is_tree(STAR, ((0, 1), (1, 3)), ('cases', 2, (('full', 0), ('short', 1))))
+    True
+    >>> [leaves(('cases', 2, (('full', 0), ('short', 1)))), leaves(('short', 0)), is_tree(STAR, ((0, 1), (1, 3)), ('short', 1))]
+    [2, 1, True]
+"""
+
+STAGE_4 = r"""
+    >>> [is_cut(RING, (0, 2)), is_cut(RING, (0, 1)), is_cut(PATH, (1,)), is_cut(PATH, (0,)), is_cut((2, ()), ())]
+    [True, False, True, False, True]
+    >>> [is_way(RING, 0, 2, (0, 3, 2)), is_way(RING, 0, 2, (0, 2)), ways_apart(PATH, 0, 3), parting_lot(RING, 0, 2), len(ways_apart(KITE, 0, 3))]
+    [True, False, ((0, 1, 2, 3),), (1, 3), 2]
+    >>> [find_cut(RING, 2), find_cut(PATH, 1), find_cut(KITE, 2), find_paper(KITE, 2)]
+    [None, None, (3,), None]
+    >>> is_paper(RING, 2, {(0, 2): ((0, 1, 2), (0, 3, 2)), (1, 3): ((1, 2, 3), (1, 0, 3))})
+    True
+"""
+
+STAGE_5 = r"""
+    >>> [is_firm(RING, 2), is_firm(RING, 3), is_firm(PATH, 2), firmness(RING), firmness(KITE), firmness((3, ((0, 1),))), firmness((3, ((0, 1), (0, 2), (1, 2))))]
+    [True, False, False, 2, 1, 0, 2]
+    >>> [is_bar(PATH, 2, ((1, 0), (1, 3))), is_bar(PATH, 2, ((0, 1), (1, 3))), is_bar(RING, 3, ((0, 2, 1), (1, 1, 2))), find_bar(RING, 2)]
+    [True, False, True, None]
+    >>> [find_parts(PATH, ((1, 0), (1, 3))), find_tree(PATH, ((1, 0), (1, 3))) is None, bar_of(KITE, 2, (3,))[0][0]]
+    [None, False, 3]
+"""
+
+STAGE_6 = r"""
+    >>> [is_order(RING, 0, 2, (0, 1, 3, 2)), is_order(RING, 0, 1, (0, 3, 2, 1)), is_order(PATH, 0, 3, (0, 2, 1, 3)), find_order(PATH, 0, 3), find_order(PATH, 0, 2)]
+    [True, True, False, (0, 1, 2, 3), None]
+    >>> [is_loose(PATH, 0, 2, (2, (3,))), is_loose(KITE, 0, 1, (3, (4,))), is_loose(KITE, 0, 4, (3, (1, 2))), find_loose(RING, 0, 2)]
+    [True, True, False, None]
+    >>> [parts_by_order((0, 1, 3, 2), 3), parts_by_order((0, 1, 3, 2), 1)]
+    [(0, 0, 1, 0), (0, 1, 1, 1)]
+"""
+
 
 class Examples(unittest.TestCase):
-    def run_text(self, text, module, many):
+    def run_text(self, text, module, many, **further):
         names = {name: getattr(module, name) for name in dir(module) if not name.startswith("_")}
+        names.update(further)
         test = DocTestParser().get_doctest(WEBS + text, names, module.__name__, None, 0)
         self.assertEqual(len(test.examples), 4 + many)
         told = []
@@ -46,6 +89,18 @@ class Examples(unittest.TestCase):
 
     def test_stage_2(self):
         self.run_text(STAGE_2, deals, 3)
+
+    def test_stage_3(self):
+        self.run_text(STAGE_3, trees, 5)
+
+    def test_stage_4(self):
+        self.run_text(STAGE_4, cuts, 4)
+
+    def test_stage_5(self):
+        self.run_text(STAGE_5, firmness, 3, find_parts=trees.find_parts, find_tree=trees.find_tree)
+
+    def test_stage_6(self):
+        self.run_text(STAGE_6, orders, 3)
 
     def test_sample_webs_are_those_of_the_document(self):
         names = {}

@@ -17,6 +17,21 @@ FUNCTIONS = {
         "is_deal(web, value)", "is_parts(web, deal, value)", "part_of(dealing, i)", "every_sizes(n, k)",
         "border(web, dealing)",
     ],
+    "trees": [
+        "first_state(web, deal)", "room_of(web, deal, state, i)", "find_parts(web, deal)", "find_tree(web, deal)",
+        "is_tree(web, deal, value)", "leaves(tree)",
+    ],
+    "cuts": [
+        "is_cut(web, value)", "is_way(web, a, b, value)", "ways_apart(web, a, b)", "parting_lot(web, a, b)",
+        "find_paper(web, k)", "find_cut(web, k)", "is_paper(web, k, value)",
+    ],
+    "firmness": [
+        "is_firm(web, k)", "firmness(web)", "bar_of(web, k, cut)", "find_bar(web, k)", "is_bar(web, k, value)",
+    ],
+    "orders": [
+        "find_order(web, a, b)", "find_loose(web, a, b)", "is_order(web, a, b, value)", "is_loose(web, a, b, value)",
+        "parts_by_order(order, size)",
+    ],
 }
 
 CLASSES = {

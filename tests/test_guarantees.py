@@ -1,0 +1,151 @@
+"""What holds of all calls: arguments kept as they are, new results, equal answers, and the time that they take."""
+
+import unittest
+from copy import deepcopy
+from random import Random
+from time import process_time
+
+from rootparts.cuts import find_cut, find_paper, is_cut, is_paper, is_way, parting_lot, ways_apart
+from rootparts.firmness import bar_of, find_bar, firmness, is_bar, is_firm
+from rootparts.orders import find_loose, find_order, is_loose, is_order, parts_by_order
+from rootparts.trees import find_parts, find_tree, first_state, is_tree, leaves, room_of
+from rootparts.webs import loose_ties
+from tests.samples import (
+    GREAT, KITE, PATH, RING, STAR, bare, full, odd_values, rebuilt, ring, sampled_webs, split_sizes, two_sides,
+)
+
+# Deals of webs of twelve places for which many cases have to be gone through.
+HARD = [
+    ((12, (
+        (0, 9), (1, 2), (1, 3), (1, 6), (1, 7), (1, 8), (1, 9), (1, 10), (1, 11), (2, 3), (2, 4), (2, 6), (2, 8),
+        (2, 10), (2, 11), (3, 4), (3, 7), (3, 8), (3, 9), (3, 10), (4, 6), (4, 7), (4, 8), (4, 10), (4, 11), (5, 8),
+        (5, 9), (6, 7), (6, 8), (6, 11), (7, 8), (7, 10), (8, 10), (9, 11), (10, 11),
+    )), ((5, 0, 8), (4, 4, 4))),
+    ((12, (
+        (0, 1), (0, 7), (0, 11), (1, 2), (1, 3), (1, 4), (1, 5), (1, 6), (1, 8), (1, 10), (2, 3), (2, 5), (2, 8),
+        (2, 9), (2, 10), (2, 11), (3, 5), (3, 7), (3, 8), (3, 9), (3, 10), (4, 6), (4, 7), (5, 8), (5, 9), (5, 10),
+        (5, 11), (6, 11), (7, 10), (7, 11), (8, 9), (8, 10), (9, 10), (9, 11),
+    )), ((0, 1, 7, 4), (3, 3, 3, 3))),
+    ((12, (
+        (0, 1), (0, 2), (0, 3), (0, 4), (0, 7), (0, 10), (0, 11), (1, 2), (1, 3), (1, 4), (1, 5), (1, 7), (1, 8),
+        (1, 11), (2, 3), (2, 5), (2, 6), (2, 7), (2, 8), (2, 10), (2, 11), (3, 4), (3, 5), (3, 6), (3, 8), (4, 6),
+        (4, 7), (4, 9), (4, 10), (4, 11), (5, 7), (5, 8), (5, 10), (5, 11), (6, 10), (7, 8), (7, 11), (8, 10),
+        (8, 11), (9, 10),
+    )), ((6, 3, 2, 11, 9, 4), (2, 2, 2, 2, 2, 2))),
+    (two_sides(4, 8), ((4, 5, 6, 7, 8), (3, 3, 2, 2, 2))),
+    (two_sides(6, 6), ((0, 1, 2, 3), (3, 3, 3, 3))),
+]
+
+DEAL = ((0, 2), (2, 2))
+TREE = ("cases", 2, (("full", 0), ("short", 1)))
+PAPER = {(0, 2): ((0, 1, 2), (0, 3, 2)), (1, 3): ((1, 2, 3), (1, 0, 3))}
+
+CALLS = [
+    (first_state, (RING, DEAL)), (room_of, (RING, DEAL, (0, -1, 1, -1), 0)), (find_parts, (RING, DEAL)),
+    (find_parts, (PATH, ((0, 2), (3, 1)))), (find_tree, (PATH, ((0, 2), (3, 1)))), (find_tree, (RING, DEAL)),
+    (find_tree, (two_sides(2, 5), ((2, 3, 4), (3, 3, 1)))), (is_tree, (STAR, ((0, 1), (1, 3)), TREE)), (leaves, (TREE,)),
+    (is_cut, (RING, (0, 2))), (is_way, (RING, 0, 2, (0, 3, 2))), (ways_apart, (KITE, 0, 3)), (ways_apart, (KITE, 3, 0)),
+    (parting_lot, (RING, 0, 2)), (find_paper, (RING, 2)), (find_paper, (full(4), 2)), (find_paper, (KITE, 2)),
+    (find_cut, (KITE, 2)), (find_cut, (RING, 2)), (is_paper, (RING, 2, PAPER)),
+    (is_firm, (RING, 2)), (firmness, (KITE,)), (bar_of, (KITE, 2, (3,))), (find_bar, (KITE, 3)), (find_bar, (RING, 2)),
+    (is_bar, (PATH, 2, ((1, 0), (1, 3)))),
+    (find_order, (RING, 0, 2)), (find_order, (PATH, 0, 2)), (find_loose, (PATH, 0, 2)), (find_loose, (RING, 0, 2)),
+    (is_order, (RING, 0, 2, (0, 1, 3, 2))), (is_loose, (PATH, 0, 2, (2, (3,)))), (parts_by_order, ((0, 1, 3, 2), 3)),
+]
+
+CHECKS = [
+    (is_tree, (STAR, ((0, 1), (1, 3)))), (is_cut, (RING,)), (is_way, (RING, 0, 2)), (is_paper, (RING, 2)),
+    (is_bar, (PATH, 2)), (is_order, (RING, 0, 2)), (is_loose, (PATH, 0, 2)),
+]
+
+
+class Calls(unittest.TestCase):
+    def test_no_call_changes_its_arguments(self):
+        for function, arguments in CALLS:
+            kept = repr(arguments)
+            function(*arguments)
+            self.assertEqual(repr(arguments), kept, function)
+
+    def test_no_check_changes_any_value(self):
+        lists = [[["short", 1], {"short": [1]}], ("cases", 2, [["full", 0], ["short", 1]]), ["short", 1], {(0, 2): [[0, 1, 2]]}]
+        for value in odd_values() + lists + [PAPER, dict(PAPER), [0, 1, 3, 2], [2, [3]], (2, [3]), [[1, 0], [1, 3]]]:
+            kept = deepcopy(value)
+            for function, arguments in CHECKS:
+                function(*arguments, value)
+                self.assertEqual(repr(value), repr(kept), function)
+
+    def test_equal_arguments_have_equal_results(self):
+        for function, arguments in CALLS:
+            told = repr(function(*arguments))
+            for _ in range(2):
+                self.assertEqual(repr(function(*rebuilt(arguments))), told, function)
+
+    def test_the_order_of_calls_means_nothing(self):
+        told = [repr(function(*arguments)) for function, arguments in CALLS]
+        self.assertEqual([repr(function(*arguments)) for function, arguments in CALLS[::-1]], told[::-1])
+
+    def test_checks_tell_bools(self):
+        for value in odd_values() + [TREE, PAPER, (0, 2), (0, 3, 2), ((1, 0), (1, 3)), (0, 1, 3, 2), (2, (3,))]:
+            for function, arguments in CHECKS:
+                self.assertIsInstance(function(*arguments, value), bool)
+        for function, arguments in CHECKS:
+            right = [value for value in [TREE, PAPER, (0, 2), (0, 3, 2), ((1, 0), (1, 3)), (0, 1, 3, 2), (2, (3,))]]
+            self.assertEqual(sum(function(*arguments, value) for value in right), 1, function)
+
+
+class Time(unittest.TestCase):
+    """No call takes more than a few seconds at the limits; here most take some hundredths of one."""
+
+    def timed(self, function, *arguments):
+        begin = process_time()
+        told = function(*arguments)
+        self.assertLess(process_time() - begin, 5, (function, arguments))
+        return told
+
+    def test_parts_and_trees(self):
+        draw = Random(6)
+        deals = list(HARD)
+        for web in GREAT + sampled_webs(12, 30, 8):
+            for k in (2, 3, 4, 5, 7):
+                deals.append((web, (tuple(draw.sample(range(12), k)), draw.choice(split_sizes(12, k)))))
+        for web, deal in deals:
+            parts = self.timed(find_parts, web, deal)
+            tree = self.timed(find_tree, web, deal)
+            self.assertIs(parts is None, tree is not None)
+            if tree is not None:
+                self.assertIs(self.timed(is_tree, web, deal, tree), True)
+                self.assertGreaterEqual(self.timed(leaves, tree), 1)
+
+    def test_papers_cuts_and_bars(self):
+        for web in GREAT + sampled_webs(12, 10, 7):
+            self.timed(firmness, web)
+            for k in range(1, 12):
+                paper = self.timed(find_paper, web, k)
+                self.timed(find_cut, web, k)
+                self.timed(is_firm, web, k)
+                self.timed(find_bar, web, k)
+                if paper is not None:
+                    self.assertIs(self.timed(is_paper, web, k, paper), True)
+            for a, b in loose_ties(web)[::5]:
+                self.timed(ways_apart, web, a, b)
+                self.timed(parting_lot, web, a, b)
+
+    def test_orders_and_loose_ends(self):
+        for web in GREAT + sampled_webs(12, 10, 6):
+            for a, b in [(0, 1), (0, 11), (11, 0), (4, 7)]:
+                self.timed(find_order, web, a, b)
+                self.timed(find_loose, web, a, b)
+
+    def test_great_values(self):
+        great = [tuple(range(20000)), ((0, 1),) * 10000, {(a, b): () for a in range(140) for b in range(140)}]
+        deep = ("short", 1)
+        for _ in range(13):
+            deep = ("cases", 2, (deep, deep))
+        for value in great + [deep, [deep], {0: deep}]:
+            for function, arguments in CHECKS:
+                self.assertIs(self.timed(function, *arguments, value), False)
+        for web in (bare(12), full(12), ring(12)):
+            for value in great:
+                self.assertIs(self.timed(is_cut, web, value), False)
+                self.assertIs(self.timed(is_order, web, 0, 1, value), False)
+                self.assertIs(self.timed(is_paper, web, 2, value), False)
