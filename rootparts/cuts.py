@@ -1,6 +1,6 @@
 """Cuts of a web, ways that are apart, and papers of ways between all places that are not tied."""
 
-from rootparts.webs import is_lot, is_place, is_tie, loose_ties, neighbours, other_places, pieces
+from rootparts.webs import has_keys, is_lot, is_place, loose_ties, neighbours, other_places, pieces, trail
 
 # The two sides of a place in the search for ways: a way comes to it at one and leaves it from the other.
 IN = 0
@@ -39,7 +39,7 @@ def _most_links(web, a, b):
     links = []
     came = _came_from(web, links, a, b)
     while (b, IN) in came:
-        links = _with_way(links, _trail(came, (b, IN)))
+        links = _with_way(links, trail(came, (b, IN)))
         came = _came_from(web, links, a, b)
     return links
 
@@ -72,20 +72,11 @@ def _next_sides(web, before, last):
     return ahead
 
 
-def _trail(came, last):
-    """Return the sides from the first one to the last one."""
-    trail = [last]
-    while came[last] is not None:
-        last = came[last]
-        trail.append(last)
-    return trail[::-1]
-
-
-def _with_way(links, trail):
-    """Return the links with those that the trail goes along put in, and those that it takes back left out."""
+def _with_way(links, sides):
+    """Return the links with those that the row of sides goes along put in, and those that it takes back left out."""
     added = []
     taken = []
-    for (place, side), (other, _) in zip(trail, trail[1:]):
+    for (place, side), (other, _) in zip(sides, sides[1:]):
         if place != other and side == OUT:
             added.append((place, other))
         if place != other and side == IN:
@@ -124,11 +115,7 @@ def find_cut(web, k):
 
 def is_paper(web, k, value):
     """Return whether the value is a paper of the web for k."""
-    loose = loose_ties(web)
-    if not isinstance(value, dict) or len(value) != len(loose):
-        return False
-    # As many different keys, all of them loose ties, are just all loose ties.
-    if not all([is_tie(web[0], key) and key in loose for key in value]):
+    if not has_keys(value, loose_ties(web)):
         return False
     return all([_are_ways_apart(web, a, b, k, ways) for (a, b), ways in value.items()])
 

@@ -39,10 +39,10 @@ def is_parts(web, deal, value):
     k = len(roots)
     if not is_dealing(web[0], k, value):
         return False
-    return all([value[roots[i]] == i and _is_part(web, part_of(value, i), sizes[i]) for i in range(k)])
+    return all([value[roots[i]] == i and is_part(web, part_of(value, i), sizes[i]) for i in range(k)])
 
 
-def _is_part(web, lot, size):
+def is_part(web, lot, size):
     """Return whether the lot has the size and hangs."""
     return len(lot) == size and hangs(web, lot)
 
@@ -50,6 +50,11 @@ def _is_part(web, lot, size):
 def part_of(dealing, i):
     """Return the lot of the places of part i of the dealing."""
     return tuple([place for place, part in enumerate(dealing) if part == i])
+
+
+def put(dealing, place, i):
+    """Return the dealing, or state, in which the place is put to part i and all else is as it was."""
+    return dealing[:place] + (i,) + dealing[place + 1:]
 
 
 def every_sizes(n, k):

@@ -1,6 +1,6 @@
 """Orders of a web from a place to another one, from which parts of every size are read off, or loose ends."""
 
-from rootparts.webs import is_lot, is_place, neighbours, other_places, pieces
+from rootparts.webs import is_lot, is_place, neighbours, other_places, pieces, touches
 
 
 def find_order(web, a, b):
@@ -8,7 +8,7 @@ def find_order(web, a, b):
     order = (a, b)
     while len(order) < web[0]:
         piece = pieces(web, other_places(web, order))[0]
-        touched = [place for place in order if _touches(web, place, piece)]
+        touched = [place for place in order if touches(web, place, piece)]
         # Tied to at most one place of the order, the piece is the lot of a loose end.
         if len(touched) < 2:
             return None
@@ -16,11 +16,6 @@ def find_order(web, a, b):
         at = order.index(touched[0]) + 1
         order = order[:at] + _row_between(web, piece, touched[0], touched[1]) + order[at:]
     return order
-
-
-def _touches(web, place, piece):
-    """Return whether the place has a neighbour in the piece."""
-    return any([other in piece for other in neighbours(web, place)])
 
 
 def _row_between(web, piece, first, last):
@@ -60,7 +55,7 @@ def is_order(web, a, b, value):
 
 def _is_between(web, order, at):
     """Return whether the place at the index has a neighbour earlier in the order and one later in it."""
-    return _touches(web, order[at], order[:at]) and _touches(web, order[at], order[at + 1:])
+    return touches(web, order[at], order[:at]) and touches(web, order[at], order[at + 1:])
 
 
 def is_loose(web, a, b, value):

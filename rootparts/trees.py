@@ -1,5 +1,6 @@
 """Parts of a web for a deal, or a tree of cases that shows that there are none."""
 
+from rootparts.deals import put
 from rootparts.webs import every_neighbours, is_place, piece_of, reached_places
 
 # Stands in a state for a place that is put to no part yet.
@@ -50,11 +51,6 @@ def _is_lost(deal, state, rooms, place):
     return state[place] == OPEN and _takers(deal, state, rooms, place) == 0
 
 
-def _put(state, place, i):
-    """Return the state in which the place is put to part i and all else is as it was."""
-    return state[:place] + (i,) + state[place + 1:]
-
-
 def find_parts(web, deal):
     """Return parts of the web for the deal, or None if there are none."""
     return _parts_and_tree(every_neighbours(web), deal, first_state(web, deal))[0]
@@ -77,7 +73,7 @@ def _parts_and_tree(near, deal, state):
     place = _place_to_put(near, deal, state, rooms)
     pages = []
     for i in range(len(rooms)):
-        parts, page = _parts_and_tree(near, deal, _put(state, place, i))
+        parts, page = _parts_and_tree(near, deal, put(state, place, i))
         if parts is not None:
             return (parts, None)
         pages.append(page)
@@ -130,7 +126,7 @@ def _are_cases(near, deal, state, place, pages):
         return False
     # A loop that stops at the first wrong page: a value may have very many of them.
     for i, page in enumerate(pages):
-        if not _is_tree_for(near, deal, _put(state, place, i), page):
+        if not _is_tree_for(near, deal, put(state, place, i), page):
             return False
     return True
 

@@ -26,6 +26,19 @@ def is_tie(n, value):
     return is_place(n, a) and is_place(n, b) and a < b
 
 
+def has_keys(value, keys):
+    """Return whether the value is a dict with just these keys, which are tuples of integers."""
+    if not isinstance(value, dict) or len(value) != len(keys):
+        return False
+    # As many different keys, all of them among these, are just these; a bool in a key is no integer.
+    return all([_are_whole(key) and key in keys for key in value])
+
+
+def _are_whole(value):
+    """Return whether the value is a tuple of integers."""
+    return isinstance(value, tuple) and all([is_whole(item) for item in value])
+
+
 def is_web(value):
     """Return whether the value is a web."""
     if not isinstance(value, tuple) or len(value) != 2:
@@ -50,6 +63,11 @@ def neighbours(web, place):
     lesser = [a for a, b in ties if b == place]
     greater = [b for a, b in ties if a == place]
     return tuple(sorted(lesser + greater))
+
+
+def touches(web, place, lot):
+    """Return whether the place has a neighbour in the lot."""
+    return any([other in lot for other in neighbours(web, place)])
 
 
 def other_places(web, places):
@@ -85,13 +103,14 @@ def piece_of(web, lot, place):
 
 def pieces(web, lot):
     """Return the pieces of the lot in ascending order."""
+    near = every_neighbours(web)
     # The lot ascends, so each piece is met by its least place, in order.
     found = []
     met = []
     for place in lot:
         if place not in met:
-            piece = piece_of(web, lot, place)
-            found.append(piece)
+            piece = sorted(reached_places(near, lot, place))
+            found.append(tuple(piece))
             met.extend(piece)
     return tuple(found)
 
@@ -114,3 +133,11 @@ def loose_ties(web):
     """Return, in ascending order, all tuples of two places that are not tied."""
     n, ties = web
     return tuple([(a, b) for a in range(n) for b in range(a + 1, n) if (a, b) not in ties])
+
+
+def trail(came, last):
+    """Return the list that leads to the last one; came is a dict from each one to the one before it, or to None."""
+    row = [last]
+    while came[row[-1]] is not None:
+        row.append(came[row[-1]])
+    return row[::-1]

@@ -3,7 +3,7 @@
 import unittest
 from doctest import DocTestParser, DocTestRunner
 
-from rootparts import cuts, deals, firmness, orders, trees, webs
+from rootparts import cuts, deals, fewest, firmness, frees, moves, orders, trees, webs, weights
 from tests import samples
 
 WEBS = r"""
@@ -73,6 +73,44 @@ STAGE_6 = r"""
     [(0, 0, 1, 0), (0, 1, 1, 1)]
 """
 
+STAGE_7 = r"""
+    >>> [weight_of((5, 1, 2, 4), (0, 3)), weighted_size((5, 1, 2, 4), (0, 1, 3, 2), 7), weighted_size((5, 1, 2, 4), (0, 1, 3, 2), 5)]
+    [9, 2, 1]
+    >>> [even_size((5, 1, 2, 4), (0, 1, 3, 2)), every_cut_weight((5, 1, 2, 4), (0, 1, 3, 2))]
+    [2, [(5, 7), (6, 6), (10, 2)]]
+"""
+
+STAGE_8 = r"""
+    >>> [find_free(STAR, (2, 2)), is_free(STAR, (1, 3), (1, 0, 1, 1)), is_free(STAR, (1, 3), (0, 1, 1, 1)), roots_of((1, 0, 1, 1), 2)]
+    [None, True, False, (1, 0)]
+    >>> [served_roots(STAR, (3, 1)), served_roots(STAR, (2, 2)), find_table(RING, (2, 2))]
+    [[(0, 1), (0, 2), (0, 3), (1, 2), (1, 3), (2, 1), (2, 3), (3, 1), (3, 2)], [], None]
+    >>> is_table((3, ()), (1, 2), {(a, b): ('short', 1) for a in range(3) for b in range(3) if a != b})
+    True
+"""
+
+STAGE_9 = r"""
+    >>> FROM = (0, 0, 1, 0)
+    >>> TO = (0, 1, 1, 1)
+    >>> WIDE = ((1, 3), (1, 3))
+    >>> [is_standing(RING, (0, 2), WIDE, FROM), is_standing(RING, (0, 2), ((1, 2), (1, 3)), FROM), len(standings(RING, (0, 2), WIDE))]
+    [True, False, 4]
+    >>> [moves_of(RING, (0, 2), WIDE, FROM), len(find_row(RING, (0, 2), WIDE, FROM, TO)), find_shut(RING, (0, 2), WIDE, FROM, TO)]
+    [[(0, 0, 1, 1), (0, 1, 1, 0)], 3, None]
+    >>> TIGHT = ((2, 2), (2, 2))
+    >>> [find_row(RING, (0, 2), TIGHT, (0, 0, 1, 1), (0, 1, 1, 0)), find_shut(RING, (0, 2), TIGHT, (0, 0, 1, 1), (0, 1, 1, 0))]
+    [None, ((0, 0, 1, 1),)]
+"""
+
+STAGE_10 = r"""
+    >>> [ties_needed(RING), ties_needed(PATH), ties_needed(STAR), ties_needed((3, ())), find_mending(PATH)]
+    [0, 1, 2, 3, ((0, 3),)]
+    >>> [is_mending(STAR, ((1, 2), (2, 3))), is_mending(STAR, ((1, 2),)), bound_tells(STAR, ('pieces', 0)), bound_tells(STAR, ('lots', ((1,), (2,), (3,))))]
+    [True, False, 2, 2]
+    >>> [bound_tells(PATH, ('lots', ((0,), (3,)))), bound_tells(PATH, ('lots', ((1,),))), bound_tells((3, ()), ('lots', ((0,), (1,), (2,)))), find_bound(RING)]
+    [1, None, 3, None]
+"""
+
 
 class Examples(unittest.TestCase):
     def run_text(self, text, module, many, **further):
@@ -101,6 +139,18 @@ class Examples(unittest.TestCase):
 
     def test_stage_6(self):
         self.run_text(STAGE_6, orders, 3)
+
+    def test_stage_7(self):
+        self.run_text(STAGE_7, weights, 2)
+
+    def test_stage_8(self):
+        self.run_text(STAGE_8, frees, 3)
+
+    def test_stage_9(self):
+        self.run_text(STAGE_9, moves, 7)
+
+    def test_stage_10(self):
+        self.run_text(STAGE_10, fewest, 3)
 
     def test_sample_webs_are_those_of_the_document(self):
         names = {}

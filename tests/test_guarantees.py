@@ -6,12 +6,18 @@ from random import Random
 from time import process_time
 
 from rootparts.cuts import find_cut, find_paper, is_cut, is_paper, is_way, parting_lot, ways_apart
+from rootparts.deals import every_sizes
+from rootparts.fewest import bound_tells, find_bound, find_mending, is_mending, ties_needed
 from rootparts.firmness import bar_of, find_bar, firmness, is_bar, is_firm
+from rootparts.frees import find_free, find_table, is_free, is_table, roots_of, served_roots
+from rootparts.moves import find_row, find_shut, is_row, is_shut, is_standing, moves_of, standings
 from rootparts.orders import find_loose, find_order, is_loose, is_order, parts_by_order
 from rootparts.trees import find_parts, find_tree, first_state, is_tree, leaves, room_of
 from rootparts.webs import loose_ties
+from rootparts.weights import even_size, every_cut_weight, weight_of, weighted_size
 from tests.samples import (
-    GREAT, KITE, PATH, RING, STAR, bare, full, odd_values, rebuilt, ring, sampled_webs, split_sizes, two_sides,
+    GREAT, KITE, PATH, RING, STAR, bare, full, grid, odd_values, path, rebuilt, ring, sampled_webs, split_sizes, star,
+    two_sides,
 )
 
 # Deals of webs of twelve places for which many cases have to be gone through.
@@ -40,6 +46,13 @@ DEAL = ((0, 2), (2, 2))
 TREE = ("cases", 2, (("full", 0), ("short", 1)))
 PAPER = {(0, 2): ((0, 1, 2), (0, 3, 2)), (1, 3): ((1, 2, 3), (1, 0, 3))}
 
+ORDER = (0, 1, 3, 2)
+WEIGHTS = (5, 1, 2, 4)
+WIDE = ((1, 3), (1, 3))
+TIGHT = ((2, 2), (2, 2))
+ONE, OTHER = (0, 0, 1, 1), (0, 1, 1, 0)
+LOTS = ("lots", ((1,), (2,), (3,)))
+
 CALLS = [
     (first_state, (RING, DEAL)), (room_of, (RING, DEAL, (0, -1, 1, -1), 0)), (find_parts, (RING, DEAL)),
     (find_parts, (PATH, ((0, 2), (3, 1)))), (find_tree, (PATH, ((0, 2), (3, 1)))), (find_tree, (RING, DEAL)),
@@ -51,12 +64,51 @@ CALLS = [
     (is_bar, (PATH, 2, ((1, 0), (1, 3)))),
     (find_order, (RING, 0, 2)), (find_order, (PATH, 0, 2)), (find_loose, (PATH, 0, 2)), (find_loose, (RING, 0, 2)),
     (is_order, (RING, 0, 2, (0, 1, 3, 2))), (is_loose, (PATH, 0, 2, (2, (3,)))), (parts_by_order, ((0, 1, 3, 2), 3)),
+    (weight_of, (WEIGHTS, (0, 3))), (weighted_size, (WEIGHTS, ORDER, 7)), (even_size, (WEIGHTS, ORDER)),
+    (every_cut_weight, (WEIGHTS, ORDER)),
+    (find_free, (RING, (2, 2))), (find_free, (STAR, (2, 2))), (find_table, (STAR, (2, 2))), (find_table, (RING, (2, 2))),
+    (is_free, (RING, (2, 2), (0, 0, 1, 1))), (is_table, (bare(2), (2,), {(0,): ("short", 0), (1,): ("short", 0)})),
+    (served_roots, (STAR, (3, 1))), (roots_of, ((1, 0, 1, 1), 2)),
+    (is_standing, (RING, (0, 2), WIDE, ONE)), (standings, (RING, (0, 2), WIDE)), (moves_of, (RING, (0, 2), WIDE, ONE)),
+    (find_row, (RING, (0, 2), WIDE, ONE, OTHER)), (find_shut, (RING, (0, 2), WIDE, ONE, OTHER)),
+    (find_row, (RING, (0, 2), TIGHT, ONE, OTHER)), (find_shut, (RING, (0, 2), TIGHT, ONE, OTHER)),
+    (is_row, (RING, (0, 2), WIDE, ONE, OTHER, (ONE, (0, 0, 1, 0), OTHER))),
+    (is_shut, (RING, (0, 2), TIGHT, ONE, OTHER, (ONE,))),
+    (ties_needed, (STAR,)), (find_mending, (bare(5),)), (is_mending, (STAR, ((1, 2), (2, 3)))), (find_bound, (STAR,)),
+    (find_bound, (bare(5),)), (bound_tells, (STAR, LOTS)),
 ]
 
 CHECKS = [
     (is_tree, (STAR, ((0, 1), (1, 3)))), (is_cut, (RING,)), (is_way, (RING, 0, 2)), (is_paper, (RING, 2)),
     (is_bar, (PATH, 2)), (is_order, (RING, 0, 2)), (is_loose, (PATH, 0, 2)),
+    (is_free, (STAR, (1, 3))), (is_table, (bare(2), (2,))), (is_standing, (KITE, (0, 4), ((1, 5), (1, 5)))),
+    (is_row, (RING, (0, 2), WIDE, ONE, OTHER)), (is_shut, (RING, (0, 2), TIGHT, ONE, OTHER)), (is_mending, (STAR,)),
 ]
+
+# For each check a value that it takes, and that no other one does.
+RIGHT = [
+    TREE, (0, 2), (0, 3, 2), PAPER, ((1, 0), (1, 3)), ORDER, (2, (3,)),
+    (1, 0, 1, 1), {(0,): ("short", 0), (1,): ("short", 0)}, (0, 0, 0, 0, 1),
+    (ONE, (0, 0, 1, 0), OTHER), (ONE,), ((1, 2), (2, 3)),
+]
+
+# Calls that tell a list or a dict.
+TOLD = [
+    (every_sizes, (5, 3)), (find_paper, (RING, 2)), (find_paper, (full(4), 2)), (every_cut_weight, (WEIGHTS, ORDER)),
+    (find_table, (STAR, (2, 2))), (served_roots, (STAR, (3, 1))), (served_roots, (STAR, (2, 2))),
+    (standings, (RING, (0, 2), WIDE)), (standings, (RING, (0,), WIDE)), (moves_of, (RING, (0, 2), WIDE, ONE)),
+    (moves_of, (RING, (0, 2), TIGHT, ONE)),
+]
+
+
+def changeable(value):
+    """All lists and dicts within the value, itself included, each as often as it is there."""
+    out = [value] if isinstance(value, (list, dict)) else []
+    inner = [*value, *value.values()] if isinstance(value, dict) else value
+    if isinstance(value, (list, dict, tuple)):
+        for item in inner:
+            out += changeable(item)
+    return out
 
 
 class Calls(unittest.TestCase):
@@ -85,12 +137,27 @@ class Calls(unittest.TestCase):
         self.assertEqual([repr(function(*arguments)) for function, arguments in CALLS[::-1]], told[::-1])
 
     def test_checks_tell_bools(self):
-        for value in odd_values() + [TREE, PAPER, (0, 2), (0, 3, 2), ((1, 0), (1, 3)), (0, 1, 3, 2), (2, (3,))]:
+        for value in odd_values() + RIGHT:
             for function, arguments in CHECKS:
                 self.assertIsInstance(function(*arguments, value), bool)
-        for function, arguments in CHECKS:
-            right = [value for value in [TREE, PAPER, (0, 2), (0, 3, 2), ((1, 0), (1, 3)), (0, 1, 3, 2), (2, (3,))]]
-            self.assertEqual(sum(function(*arguments, value) for value in right), 1, function)
+        for at, (function, arguments) in enumerate(CHECKS):
+            told = [function(*arguments, value) for value in RIGHT]
+            self.assertEqual(told, [at == other for other in range(len(RIGHT))], function)
+
+    def test_each_told_list_and_dict_is_new(self):
+        for function, arguments in TOLD:
+            first, second = function(*arguments), function(*arguments)
+            kept = repr(second)
+            self.assertIsInstance(first, (list, dict))
+            self.assertIsNot(first, second)
+            # What the caller does with one does nothing to the other one, nor to what is told next.
+            first.clear()
+            self.assertEqual([repr(second), repr(function(*arguments))], [kept, kept], function)
+
+    def test_no_two_lists_or_dicts_within_one_result_are_one(self):
+        for function, arguments in TOLD:
+            met = changeable(function(*arguments))
+            self.assertEqual(len(set(map(id, met))), len(met), function)
 
 
 class Time(unittest.TestCase):
@@ -135,6 +202,36 @@ class Time(unittest.TestCase):
             for a, b in [(0, 1), (0, 11), (11, 0), (4, 7)]:
                 self.timed(find_order, web, a, b)
                 self.timed(find_loose, web, a, b)
+
+    def test_free_parts_and_tables(self):
+        for web in [bare(5), full(5), path(5), star(5), ring(5), KITE] + sampled_webs(5, 10, 5):
+            for k in (1, 2, 3):
+                for sizes in split_sizes(5, k):
+                    self.timed(find_free, web, sizes)
+                    self.timed(served_roots, web, sizes)
+                    table = self.timed(find_table, web, sizes)
+                    self.assertIs(self.timed(is_table, web, sizes, table), table is not None)
+
+    def test_standings_rows_and_shut_sets(self):
+        for web in [bare(6), full(6), path(6), star(6), ring(6), grid(2, 3)] + sampled_webs(6, 10, 5):
+            for roots in [(0,), (0, 5), (2, 1), (0, 2, 4), (5, 1, 0)]:
+                bounds = ((1, 6),) * len(roots)
+                told = self.timed(standings, web, roots, bounds)
+                for standing in told[:1]:
+                    self.timed(moves_of, web, roots, bounds, standing)
+                    self.timed(find_row, web, roots, bounds, standing, told[-1])
+                    shut = self.timed(find_shut, web, roots, bounds, standing, told[-1])
+                    self.timed(is_shut, web, roots, bounds, standing, told[-1], shut)
+        self.assertIs(self.timed(is_row, RING, (0, 2), WIDE, ONE, ONE, (ONE, (0, 0, 1, 0)) * 3000 + (ONE,)), True)
+        self.assertIs(self.timed(is_shut, RING, (0, 2), WIDE, ONE, OTHER, (ONE,) * 20000), False)
+
+    def test_fewest_ties(self):
+        for web in [bare(6), full(6), path(6), star(6), ring(6), two_sides(2, 4)] + sampled_webs(6, 10, 5):
+            self.timed(ties_needed, web)
+            self.timed(find_mending, web)
+            self.timed(find_bound, web)
+        for value in [((0,),) * 20000, tuple((place,) for place in range(10000)), ((0, 1),) * 6000]:
+            self.assertIs(self.timed(bound_tells, bare(6), ("lots", value)), None)
 
     def test_great_values(self):
         great = [tuple(range(20000)), ((0, 1),) * 10000, {(a, b): () for a in range(140) for b in range(140)}]

@@ -32,6 +32,23 @@ FUNCTIONS = {
         "find_order(web, a, b)", "find_loose(web, a, b)", "is_order(web, a, b, value)", "is_loose(web, a, b, value)",
         "parts_by_order(order, size)",
     ],
+    "weights": [
+        "weight_of(weights, lot)", "weighted_size(weights, order, target)", "even_size(weights, order)",
+        "every_cut_weight(weights, order)",
+    ],
+    "frees": [
+        "find_free(web, sizes)", "find_table(web, sizes)", "is_free(web, sizes, value)", "is_table(web, sizes, value)",
+        "served_roots(web, sizes)", "roots_of(dealing, k)",
+    ],
+    "moves": [
+        "is_standing(web, roots, bounds, value)", "standings(web, roots, bounds)",
+        "moves_of(web, roots, bounds, standing)", "find_row(web, roots, bounds, standing, other)",
+        "find_shut(web, roots, bounds, standing, other)", "is_row(web, roots, bounds, standing, other, value)",
+        "is_shut(web, roots, bounds, standing, other, value)",
+    ],
+    "fewest": [
+        "ties_needed(web)", "find_mending(web)", "is_mending(web, value)", "find_bound(web)", "bound_tells(web, value)",
+    ],
 }
 
 CLASSES = {
