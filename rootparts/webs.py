@@ -26,17 +26,17 @@ def is_tie(n, value):
     return is_place(n, a) and is_place(n, b) and a < b
 
 
+def are_whole(value):
+    """Return whether the value is a tuple of integers."""
+    return isinstance(value, tuple) and all([is_whole(item) for item in value])
+
+
 def has_keys(value, keys):
     """Return whether the value is a dict with just these keys, which are tuples of integers."""
     if not isinstance(value, dict) or len(value) != len(keys):
         return False
     # As many different keys, all of them among these, are just these; a bool in a key is no integer.
-    return all([_are_whole(key) and key in keys for key in value])
-
-
-def _are_whole(value):
-    """Return whether the value is a tuple of integers."""
-    return isinstance(value, tuple) and all([is_whole(item) for item in value])
+    return all([are_whole(key) and key in keys for key in value])
 
 
 def is_web(value):
@@ -127,6 +127,12 @@ def with_tie(web, a, b):
     if tie in ties:
         return web
     return (n, tuple(sorted(ties + (tie,))))
+
+
+def without_tie(web, a, b):
+    """Return the web without the tie of the two places a and b."""
+    n, ties = web
+    return (n, tuple([tie for tie in ties if a not in tie or b not in tie]))
 
 
 def loose_ties(web):

@@ -2,8 +2,11 @@
 
 import unittest
 from doctest import DocTestParser, DocTestRunner
+from inspect import signature
 
-from rootparts import cuts, deals, fewest, firmness, frees, moves, orders, trees, webs, weights
+from rootparts import (
+    cuts, deals, errors, fewest, firmness, frees, maplogs, maps, moves, orders, papers, services, trees, webs, weights,
+)
 from tests import samples
 
 WEBS = r"""
@@ -111,6 +114,72 @@ STAGE_10 = r"""
     [1, None, 3, None]
 """
 
+STAGE_11 = r"""
+    >>> [served_sizes(PATH, (0, 2)), served_sizes(PATH, (0, 3)), served_sizes(RING, (0, 2)), find_want(RING, (0, 2))]
+    [[(1, 3), (2, 2)], [(1, 3), (2, 2), (3, 1)], [(1, 3), (2, 2), (3, 1)], None]
+    >>> [find_service(PATH, (0, 3)), service_by_order((0, 1, 3, 2))]
+    [{(1, 3): (0, 1, 1, 1), (2, 2): (0, 0, 1, 1), (3, 1): (0, 0, 0, 1)}, {(1, 3): (0, 1, 1, 1), (2, 2): (0, 0, 1, 1), (3, 1): (0, 0, 1, 0)}]
+    >>> [is_want(PATH, (0, 2), ((3, 1), ('short', 0))), is_want(PATH, (0, 2), ((2, 2), ('short', 0)))]
+    [True, False]
+"""
+
+STAGE_12 = r"""
+    >>> chart = Map(4)
+    >>> [chart.tie(0, 1), chart.tie(2, 1), chart.tie(2, 3), chart.root(2), chart.root(0), chart.web() == PATH, chart.roots(), len(chart)]
+    [None, None, None, None, None, True, (2, 0), 3]
+    >>> [chart.parts((3, 1)), chart.parts((1, 3)), chart.firmness(), chart.is_split()]
+    [(1, 0, 0, 0), None, 1, False]
+    >>> chart.tie(1, 0)
+    raises AlreadyTied(1, 0)
+    >>> chart.parts((4,))
+    raises InvalidSizes((4,))
+    >>> [chart.undo(), chart.unroot(2), chart.undo(), chart.undo(), chart.undo(), chart.roots(), chart.web()]
+    [('root', 0), None, ('unroot', 2), ('root', 2), ('tie', 2, 3), (), (4, ((0, 1), (1, 2)))]
+"""
+
+STAGE_13 = r"""
+    >>> chart = Map(3)
+    >>> [chart.tie(2, 0), chart.root(1)]
+    [None, None]
+    >>> map_log(chart)
+    [(('tie', 2, 0), 1, ()), (('root', 1), 1, (1,))]
+    >>> [first_map_fault(3, map_log(chart)), first_map_fault(2, map_log(chart)), first_map_fault(3, [(('tie', 2, 0), True, ())]), is_map_log(3, [])]
+    [None, 0, 0, True]
+    >>> [resumed_map(3, map_log(chart)) == chart, webs_of_log(3, map_log(chart))]
+    [True, [(3, ((0, 2),)), (3, ((0, 2),))]]
+"""
+
+STAGE_14 = r"""
+    >>> write_web((3, ((0, 1), (0, 2), (1, 2))), (0, 0, 1))
+    'places 3\ntie 0 1\ntie 0 2\ntie 1 2\nparts 0 0 1\n'
+    >>> [read_web('places 2\n'), read_web('places 2\ntie 0 1\nparts 1 11\n')]
+    [((2, ()), None), ((2, ((0, 1),)), (1, 11))]
+    >>> [is_text('places 2\ntie 1 0\n'), is_text('places 2\nparts 0\n'), is_text('places 02\n'), is_text('places 2'), is_text(None), is_text('places 2\nparts 0 1\ntie 0 1\n')]
+    [False, False, False, False, False, False]
+    >>> read_web('places 13\n')
+    raises InvalidText('places 13\n')
+"""
+
+
+class Told:
+    """Shown as the document shows that a call raises an error."""
+
+    def __init__(self, text):
+        self.text = text
+
+    def __repr__(self):
+        return self.text
+
+
+def told_error(call):
+    try:
+        call()
+    except errors.RootpartsError as error:
+        names = list(signature(error.__class__.__init__).parameters)[1:]
+        shown = [repr(getattr(error, name)) for name in names]
+        return Told("raises " + error.__class__.__name__ + "(" + ", ".join(shown) + ")")
+    return Told("raises nothing")
+
 
 class Examples(unittest.TestCase):
     def run_text(self, text, module, many, **further):
@@ -118,6 +187,10 @@ class Examples(unittest.TestCase):
         names.update(further)
         test = DocTestParser().get_doctest(WEBS + text, names, module.__name__, None, 0)
         self.assertEqual(len(test.examples), 4 + many)
+        for example in test.examples:
+            if example.want.startswith("raises "):
+                example.source = "told_error(lambda: " + example.source.strip() + ")\n"
+        test.globs["told_error"] = told_error
         told = []
         failed = DocTestRunner(verbose=False).run(test, out=told.append).failed
         self.assertEqual(failed, 0, "".join(told))
@@ -151,6 +224,18 @@ class Examples(unittest.TestCase):
 
     def test_stage_10(self):
         self.run_text(STAGE_10, fewest, 3)
+
+    def test_stage_11(self):
+        self.run_text(STAGE_11, services, 3)
+
+    def test_stage_12(self):
+        self.run_text(STAGE_12, maps, 6)
+
+    def test_stage_13(self):
+        self.run_text(STAGE_13, maplogs, 5)
+
+    def test_stage_14(self):
+        self.run_text(STAGE_14, papers, 4)
 
     def test_sample_webs_are_those_of_the_document(self):
         names = {}

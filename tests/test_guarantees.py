@@ -7,14 +7,20 @@ from time import process_time
 
 from rootparts.cuts import find_cut, find_paper, is_cut, is_paper, is_way, parting_lot, ways_apart
 from rootparts.deals import every_sizes
+from rootparts.errors import RootpartsError
 from rootparts.fewest import bound_tells, find_bound, find_mending, is_mending, ties_needed
 from rootparts.firmness import bar_of, find_bar, firmness, is_bar, is_firm
 from rootparts.frees import find_free, find_table, is_free, is_table, roots_of, served_roots
+from rootparts.maplogs import first_map_fault, is_map_log, map_log, resumed_map, webs_of_log
+from rootparts.maps import Map
 from rootparts.moves import find_row, find_shut, is_row, is_shut, is_standing, moves_of, standings
 from rootparts.orders import find_loose, find_order, is_loose, is_order, parts_by_order
+from rootparts.papers import is_text, read_web, write_web
+from rootparts.services import find_service, find_want, is_service, is_want, served_sizes, service_by_order
 from rootparts.trees import find_parts, find_tree, first_state, is_tree, leaves, room_of
 from rootparts.webs import loose_ties
 from rootparts.weights import even_size, every_cut_weight, weight_of, weighted_size
+from tests.drawn import make
 from tests.samples import (
     GREAT, KITE, PATH, RING, STAR, bare, full, grid, odd_values, path, rebuilt, ring, sampled_webs, split_sizes, star,
     two_sides,
@@ -52,6 +58,10 @@ WIDE = ((1, 3), (1, 3))
 TIGHT = ((2, 2), (2, 2))
 ONE, OTHER = (0, 0, 1, 1), (0, 1, 1, 0)
 LOTS = ("lots", ((1,), (2,), (3,)))
+SERVICE = {(1, 3): (0, 1, 1, 1), (2, 2): (0, 0, 1, 1), (3, 1): (0, 0, 0, 1)}
+WANT = ((3, 1), ("short", 0))
+LOG = [(("tie", 2, 0), 1, ()), (("root", 1), 1, (1,))]
+TEXT = "places 2\ntie 0 1\nparts 1 11\n"
 
 CALLS = [
     (first_state, (RING, DEAL)), (room_of, (RING, DEAL, (0, -1, 1, -1), 0)), (find_parts, (RING, DEAL)),
@@ -76,6 +86,11 @@ CALLS = [
     (is_shut, (RING, (0, 2), TIGHT, ONE, OTHER, (ONE,))),
     (ties_needed, (STAR,)), (find_mending, (bare(5),)), (is_mending, (STAR, ((1, 2), (2, 3)))), (find_bound, (STAR,)),
     (find_bound, (bare(5),)), (bound_tells, (STAR, LOTS)),
+    (served_sizes, (PATH, (0, 2))), (find_service, (PATH, (0, 3))), (find_service, (PATH, (0, 2))),
+    (find_want, (PATH, (0, 2))), (find_want, (PATH, (0, 3))), (is_service, (PATH, (0, 3), SERVICE)),
+    (is_want, (PATH, (0, 2), WANT)), (service_by_order, (ORDER,)),
+    (first_map_fault, (3, LOG)), (first_map_fault, (3, LOG + [[]])), (is_map_log, (3, LOG)), (webs_of_log, (3, LOG)),
+    (write_web, (RING, (0, 0, 1, 1))), (write_web, (RING, None)), (read_web, (TEXT,)), (is_text, (TEXT,)),
 ]
 
 CHECKS = [
@@ -83,6 +98,7 @@ CHECKS = [
     (is_bar, (PATH, 2)), (is_order, (RING, 0, 2)), (is_loose, (PATH, 0, 2)),
     (is_free, (STAR, (1, 3))), (is_table, (bare(2), (2,))), (is_standing, (KITE, (0, 4), ((1, 5), (1, 5)))),
     (is_row, (RING, (0, 2), WIDE, ONE, OTHER)), (is_shut, (RING, (0, 2), TIGHT, ONE, OTHER)), (is_mending, (STAR,)),
+    (is_service, (PATH, (0, 3))), (is_want, (PATH, (0, 2))), (is_map_log, (3,)), (is_text, ()),
 ]
 
 # For each check a value that it takes, and that no other one does.
@@ -90,6 +106,7 @@ RIGHT = [
     TREE, (0, 2), (0, 3, 2), PAPER, ((1, 0), (1, 3)), ORDER, (2, (3,)),
     (1, 0, 1, 1), {(0,): ("short", 0), (1,): ("short", 0)}, (0, 0, 0, 0, 1),
     (ONE, (0, 0, 1, 0), OTHER), (ONE,), ((1, 2), (2, 3)),
+    SERVICE, WANT, LOG, TEXT,
 ]
 
 # Calls that tell a list or a dict.
@@ -98,6 +115,8 @@ TOLD = [
     (find_table, (STAR, (2, 2))), (served_roots, (STAR, (3, 1))), (served_roots, (STAR, (2, 2))),
     (standings, (RING, (0, 2), WIDE)), (standings, (RING, (0,), WIDE)), (moves_of, (RING, (0, 2), WIDE, ONE)),
     (moves_of, (RING, (0, 2), TIGHT, ONE)),
+    (served_sizes, (PATH, (0, 2))), (find_service, (PATH, (0, 3))), (service_by_order, (ORDER,)), (webs_of_log, (3, LOG)),
+    (map_log, (resumed_map(3, LOG),)), (map_log, (Map(2),)),
 ]
 
 
@@ -143,6 +162,26 @@ class Calls(unittest.TestCase):
         for at, (function, arguments) in enumerate(CHECKS):
             told = [function(*arguments, value) for value in RIGHT]
             self.assertEqual(told, [at == other for other in range(len(RIGHT))], function)
+
+    def test_maps_may_stand_in_any_value(self):
+        for chart in (Map(3), resumed_map(3, LOG)):
+            for value in [
+                chart, (chart,), [chart], (chart, chart), (0, chart), (chart, 0), {0: chart}, ("cases", 0, (chart, chart)),
+                ("short", chart), (chart, ("short", 0)), ((3, 1), chart), ("lots", (chart,)), ("lots", ((chart,),)),
+                [chart, chart], [(chart, 1, ())], [((chart, 1), 1, ())], [(("tie", chart, 0), 1, ())],
+                [(("root", 1), chart, (1,))], [(("root", 1), 0, chart)], [(("root", 1), 0, (chart,))],
+            ]:
+                self.assertIs(bound_tells(STAR, value), None)
+                for function, arguments in CHECKS:
+                    self.assertIs(function(*arguments, value), False, (function, value))
+                for call in [(chart.tie, value, 0), (chart.tie, 0, value), (chart.root, value), (chart.parts, value)]:
+                    self.assertRaises(RootpartsError, *call)
+
+    def test_a_log_is_not_kept(self):
+        log = list(LOG)
+        chart = resumed_map(3, log)
+        log.clear()
+        self.assertEqual([map_log(chart), chart == resumed_map(3, LOG)], [LOG, True])
 
     def test_each_told_list_and_dict_is_new(self):
         for function, arguments in TOLD:
@@ -232,6 +271,52 @@ class Time(unittest.TestCase):
             self.timed(find_bound, web)
         for value in [((0,),) * 20000, tuple((place,) for place in range(10000)), ((0, 1),) * 6000]:
             self.assertIs(self.timed(bound_tells, bare(6), ("lots", value)), None)
+
+    def test_services_and_wants(self):
+        for web in [bare(6), full(6), path(6), star(6), ring(6), grid(2, 3)] + sampled_webs(6, 10, 5):
+            for roots in [(0,), (0, 5), (2, 1), (0, 2, 4), (5, 1, 0)]:
+                self.timed(served_sizes, web, roots)
+                service = self.timed(find_service, web, roots)
+                want = self.timed(find_want, web, roots)
+                self.assertIs(self.timed(is_service, web, roots, service), want is None)
+                self.assertIs(self.timed(is_want, web, roots, want), service is None)
+
+    def test_maps_and_logs(self):
+        for web in [bare(8), full(8), path(8), star(8), ring(8), grid(2, 4), two_sides(3, 5)] + sampled_webs(8, 10, 5):
+            chart = Map(8)
+            for call in [("tie", a, b) for a, b in web[1]] + [("root", place) for place in (5, 0, 3)]:
+                self.timed(make, chart, call)
+            self.timed(chart.firmness)
+            self.timed(chart.is_split)
+            for sizes in split_sizes(8, 3):
+                self.timed(chart.parts, sizes)
+            for place in (1, 2, 4, 6):
+                self.timed(chart.root, place)
+            self.timed(chart.parts, (2, 1, 1, 1, 1, 1, 1))
+            self.assertIs(self.timed(is_map_log, 8, self.timed(map_log, chart)), True)
+
+    def test_a_long_log(self):
+        chart = resumed_map(8, [(("tie", a, b), 0, ()) for a in range(8) for b in range(a + 1, 8)])
+        for _ in range(5000):
+            chart.untie(0, 1)
+            chart.root(3)
+            chart.tie(1, 0)
+            chart.unroot(3)
+        log = self.timed(map_log, chart)
+        self.assertEqual(len(log), 20028)
+        self.assertIs(self.timed(is_map_log, 8, log), True)
+        self.assertEqual(self.timed(first_map_fault, 8, log[:-1] + log[:1]), 20027)
+        self.assertEqual(len(self.timed(webs_of_log, 8, log)), 20028)
+        resumed = self.timed(resumed_map, 8, log)
+        self.assertIs(self.timed(resumed.__eq__, chart), True)
+        self.assertEqual(self.timed(resumed.undo), ("unroot", 3))
+
+    def test_texts(self):
+        for web in GREAT:
+            text = self.timed(write_web, web, (11,) * 12)
+            self.assertEqual(self.timed(read_web, text), (web, (11,) * 12))
+        for text in ["places 2\n" + "tie 0 1\n" * 50000, "places " + "1" * 100000 + "\n", "\n" * 100000, " " * 100000 + "\n"]:
+            self.assertIs(self.timed(is_text, text), False)
 
     def test_great_values(self):
         great = [tuple(range(20000)), ((0, 1),) * 10000, {(a, b): () for a in range(140) for b in range(140)}]

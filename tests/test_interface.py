@@ -6,6 +6,8 @@ import unittest
 from importlib import import_module
 from pathlib import Path
 
+from rootparts.maps import Map
+
 PACKAGE = Path(__file__).resolve().parent.parent / "rootparts"
 
 FUNCTIONS = {
@@ -49,6 +51,15 @@ FUNCTIONS = {
     "fewest": [
         "ties_needed(web)", "find_mending(web)", "is_mending(web, value)", "find_bound(web)", "bound_tells(web, value)",
     ],
+    "services": [
+        "served_sizes(web, roots)", "find_service(web, roots)", "find_want(web, roots)", "is_service(web, roots, value)",
+        "is_want(web, roots, value)", "service_by_order(order)",
+    ],
+    # map is the name of a builtin, which no argument may have (L15): arguments are passed by position.
+    "maplogs": [
+        "map_log(chart)", "first_map_fault(n, value)", "is_map_log(n, value)", "resumed_map(n, log)", "webs_of_log(n, log)",
+    ],
+    "papers": ["write_web(web, dealing)", "read_web(value)", "is_text(value)"],
 }
 
 CLASSES = {
@@ -56,7 +67,13 @@ CLASSES = {
         "InvalidPlace(value)", "SamePlace(place)", "AlreadyTied(a, b)", "NotTied(a, b)", "AlreadyRoot(place)",
         "NotRoot(place)", "InvalidSizes(sizes)", "InvalidText(value)",
     ],
+    "maps": ["Map(n)"],
 }
+
+METHODS = [
+    "tie(self, a, b)", "untie(self, a, b)", "root(self, place)", "unroot(self, place)", "undo(self)", "web(self)",
+    "roots(self)", "parts(self, sizes)", "firmness(self)", "is_split(self)", "__len__(self)", "__eq__(self, other)",
+]
 
 
 def defined(module, kind):
@@ -79,6 +96,11 @@ class Interface(unittest.TestCase):
     def test_classes(self):
         self.check(CLASSES, ast.ClassDef)
         self.assertIn("RootpartsError", defined("errors", ast.ClassDef))
+
+    def test_methods_stand_in_the_class_itself(self):
+        for row in METHODS:
+            name = row.partition("(")[0]
+            self.assertEqual(name + str(inspect.signature(vars(Map)[name])), row)
 
 
 class Files(unittest.TestCase):
